@@ -4,7 +4,7 @@ import io
 import sys
 import unittest
 
-from ropeline.hills import answers
+from ropeline.hills import Line, answers
 from tests.asking import BEST, TALLEST, Words, apart, ask, begins, check, rope
 
 HIGH = (1, 4, 3, 1, [0, 3, 1, 5, 2, 6, 0, 1])
@@ -48,6 +48,11 @@ class Interface(unittest.TestCase):
         self.assertEqual(answers([3]), [1, 0])
         self.assertEqual(ask(check(), check(0), check(1)), [[0, 0], [-1], [-1]])
         self.assertEqual(ask(rope(0), rope(1), rope(2), rope(0, 0)), [[0, 1], [0, 1], [-1], [-1]])
+
+    def test_a_new_line(self):
+        # With two points no call shows what is told of supports, so the line itself is asked.
+        line = Line()
+        self.assertEqual((line.clearance, line.tall, line.each, line.unit, line.ground), (0, 1, 0, 0, [0, 0]))
 
     def test_what_is_handed_in_is_not_changed(self):
         calls = every_call()
