@@ -120,7 +120,7 @@ class Interface(unittest.TestCase):
         asked = ask(begins(*HIGH), *[BEST, TALLEST] * 19, BEST)
         self.assertEqual(asked, [[0]] + [words.best(), [1]] * 19 + [words.best()])
 
-    def test_forty_calls_of_best_on_the_line_with_most_right_plans(self):
+    def test_best_39_times_on_a_line_with_many_right_plans(self):
         line = (0, 4, 0, 0, [0, 4, 7, 9, 9, 7, 4, 0])
         self.assertEqual(ask(begins(*line), *[BEST] * 39), [[0]] + [Words(*line).best()] * 39)
 
